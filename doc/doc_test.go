@@ -131,6 +131,39 @@ func TestUnseenElementStays(t *testing.T) {
 	wantText(t, d, "{l:[5,10,7],m:{}}")
 }
 
+func TestCloneGoesItsOwnWay(t *testing.T) {
+	l, m := id(3, 0), id(1, 0)
+	later := []Operation{
+		op(9, 0, Lay{List: l}), op(10, 0, Give{Place: ElementOf(l, id(9, 0)), Value: number(9)}),
+		op(11, 0, Lay{List: l, Behind: id(7, 0)}), op(12, 0, Give{Place: ElementOf(l, id(11, 0)), Value: number(11)}),
+		op(13, 0, Give{Place: ElementOf(l, id(5, 0)), Value: number(6), Instead: []api.Id{id(6, 0)}}),
+		op(14, 0, Take{Place: ElementOf(l, id(7, 0)), Gone: []api.Id{id(8, 0)}}),
+		op(15, 0, Give{Place: KeyOf(m, "a"), Value: number(1)}), op(16, 0, Give{Place: KeyOf(root, "b"), Value: number(2)}),
+		op(17, 0, Give{Place: KeyOf(m, "a"), Value: number(3)}), op(18, 0, Make{List: true}),
+		op(19, 0, Give{Place: KeyOf(m, "a"), Value: refer(id(18, 0)), Instead: []api.Id{id(17, 0)}}),
+		op(20, 0, Take{Place: KeyOf(m, "a"), Gone: []api.Id{id(15, 0)}}), op(21, 0, Take{Place: KeyOf(root, "b"), Gone: []api.Id{id(16, 0)}}),
+	}
+	d := nested()
+	var clones []*Document
+	var texts []string
+	for _, o := range later {
+		clones, texts = append(clones, d.Clone()), append(texts, d.Text())
+		d.Do(o)
+	}
+	wantText(t, d, "{l:[9,6,11],m:{a:[]}}")
+	for i, c := range clones {
+		wantText(t, c, texts[i])
+		c.Do(later[i:]...)
+		wantText(t, c, "{l:[9,6,11],m:{a:[]}}")
+		for _, other := range clones[i+1:] {
+			if other.Text() != texts[slices.Index(clones, other)] {
+				t.Errorf("a clone changed another one")
+			}
+		}
+	}
+	wantText(t, d, "{l:[9,6,11],m:{a:[]}}")
+}
+
 func TestWhatSpeaksOfNothingDoesNothing(t *testing.T) {
 	list, other := id(3, 0), id(90, 0)
 	for _, c := range []struct {

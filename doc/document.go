@@ -9,13 +9,13 @@ import (
 
 // Document is what operations have made.
 type Document struct {
-	objects  map[api.Id]*object
-	elements map[api.Id]*element
+	objects  map[api.Id]object
+	elements map[api.Id]element
 }
 
 type object struct {
 	list  bool
-	keys  map[string]values // of a map
+	keys  map[string]values // of a map; never changed, as clones share it
 	first api.Id            // of a list: its first element, seen or not
 }
 
@@ -26,15 +26,20 @@ type element struct {
 	values values
 }
 
-// values lie by the Ids of the operations that gave them, as that is how others name them.
+// values lie by the Ids of the operations that gave them, as that is how others name them; they are never changed, as clones share them.
 type values map[api.Id]api.Value
 
 // New gives a document of the root alone, an empty map.
 func New() *Document {
 	return &Document{
-		objects:  map[api.Id]*object{{}: {keys: map[string]values{}}},
-		elements: map[api.Id]*element{},
+		objects:  map[api.Id]object{{}: {}},
+		elements: map[api.Id]element{},
 	}
+}
+
+// Clone gives a document that is the same, and that goes its own way from here on.
+func (d *Document) Clone() *Document {
+	return &Document{objects: maps.Clone(d.objects), elements: maps.Clone(d.elements)}
 }
 
 // Do does operations one by one; they are in the order of their Ids, and behind all that were done.
@@ -45,50 +50,52 @@ func (d *Document) Do(operations ...Operation) {
 }
 
 func (m Make) do(d *Document, id api.Id) {
-	made := &object{list: m.List}
-	if !m.List {
-		made.keys = map[string]values{}
-	}
-	d.objects[id] = made
+	d.objects[id] = object{list: m.List}
 }
 
 func (l Lay) do(d *Document, id api.Id) {
 	if !d.IsList(l.List) {
 		return
 	}
-	ahead := &d.objects[l.List].first
-	if l.Behind != (api.Id{}) {
-		behind, there := d.elements[l.Behind]
-		if !there || behind.list != l.List {
-			return
-		}
-		ahead = &behind.next
+	if l.Behind == (api.Id{}) {
+		list := d.objects[l.List]
+		d.elements[id] = element{list: l.List, next: list.first}
+		list.first = id
+		d.objects[l.List] = list
+		return
 	}
-	d.elements[id] = &element{list: l.List, next: *ahead, values: values{}}
-	*ahead = id
+	behind, there := d.elements[l.Behind]
+	if !there || behind.list != l.List {
+		return
+	}
+	d.elements[id] = element{list: l.List, next: behind.next}
+	behind.next = id
+	d.elements[l.Behind] = behind
 }
 
 func (g Give) do(d *Document, id api.Id) {
 	if !d.hasPlace(g.Place) || !d.Has(g.Value.Object) {
 		return
 	}
-	v := d.at(g.Place)
-	if v == nil {
-		v = values{}
-		d.objects[g.Place.Object].keys[g.Place.Key] = v
-	}
-	v.drop(g.Instead)
+	v := d.at(g.Place).without(g.Instead)
 	v[id] = g.Value
+	d.set(g.Place, v)
 }
 
 func (t Take) do(d *Document, id api.Id) {
-	d.at(t.Place).drop(t.Gone)
+	if d.hasPlace(t.Place) {
+		d.set(t.Place, d.at(t.Place).without(t.Gone))
+	}
 }
 
-func (v values) drop(givers []api.Id) {
+// without gives new values: those that the named operations did not give.
+func (v values) without(givers []api.Id) values {
+	left := values{}
+	maps.Copy(left, v)
 	for _, id := range givers {
-		delete(v, id)
+		delete(left, id)
 	}
+	return left
 }
 
 func (v values) givers() []api.Id {
@@ -126,6 +133,22 @@ func (d *Document) at(p Place) values {
 	default:
 		return d.elements[p.Element].values
 	}
+}
+
+// set puts values at a place that there is.
+func (d *Document) set(p Place, v values) {
+	if p.Key == "" {
+		e := d.elements[p.Element]
+		e.values = v
+		d.elements[p.Element] = e
+		return
+	}
+	o := d.objects[p.Object]
+	keys := map[string]values{}
+	maps.Copy(keys, o.keys)
+	keys[p.Key] = v
+	o.keys = keys
+	d.objects[p.Object] = o
 }
 
 // Givers tells the Ids of the operations that gave the values of a place, in their order.

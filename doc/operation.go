@@ -7,9 +7,10 @@ import (
 	"quire/api"
 )
 
-// Operation is one change of a document, under an Id that no other operation has.
+// Operation is one change of a document, under an Id that no other operation has; it is the Nth (from 1 on) of the copy that made it.
 type Operation struct {
 	Id     api.Id
+	Nth    int
 	Change Change
 }
 

@@ -13,15 +13,27 @@ func (r *Room) inCopy(c int) (*replica, api.Errno) {
 	return r.copies[c], api.OK
 }
 
+// onLink finds a link. A nil room has none.
+func (r *Room) onLink(from, to int) (*link, api.Errno) {
+	if r == nil {
+		return nil, api.ErrLink
+	}
+	l, there := r.links[ends{from, to}]
+	if !there {
+		return nil, api.ErrLink
+	}
+	return l, api.OK
+}
+
 // inObject finds a copy that has such an object, a list or a map as is asked for.
 func (r *Room) inObject(c int, object api.Id, list bool) (*replica, api.Errno) {
 	w, e := r.inCopy(c)
 	switch {
 	case e != api.OK:
 		return nil, e
-	case !w.document.Has(object):
+	case !w.document().Has(object):
 		return nil, api.ErrObject
-	case w.document.IsList(object) != list:
+	case w.document().IsList(object) != list:
 		return nil, api.ErrKind
 	}
 	return w, api.OK
@@ -45,7 +57,7 @@ func (r *Room) atGap(c int, list api.Id, index int) (*replica, api.Errno) {
 	switch {
 	case e != api.OK:
 		return nil, e
-	case index < 0 || index > len(w.document.Elements(list)):
+	case index < 0 || index > len(w.document().Elements(list)):
 		return nil, api.ErrIndex
 	}
 	return w, api.OK
@@ -57,7 +69,7 @@ func (r *Room) atElement(c int, list api.Id, index int) (*replica, doc.Place, ap
 	if e != api.OK {
 		return nil, doc.Place{}, e
 	}
-	elements := w.document.Elements(list)
+	elements := w.document().Elements(list)
 	if index < 0 || index >= len(elements) {
 		return nil, doc.Place{}, api.ErrIndex
 	}

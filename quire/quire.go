@@ -2,6 +2,8 @@
 package quire
 
 import (
+	"slices"
+
 	"quire/api"
 	"quire/doc"
 )
@@ -9,6 +11,7 @@ import (
 // Room is copies of a document, and the links between them.
 type Room struct {
 	copies []*replica
+	links  map[ends]*link
 }
 
 // New gives a room (P3).
@@ -16,9 +19,9 @@ func New(copies int, spacing int) (*Room, api.Errno) {
 	if copies < 1 || copies > api.MaxCopies || spacing < 1 || spacing > api.MaxSpacing {
 		return nil, api.ErrSize
 	}
-	r := &Room{}
+	r := &Room{links: newLinks(copies)}
 	for number := range copies {
-		r.copies = append(r.copies, newReplica(number))
+		r.copies = append(r.copies, newReplica(number, copies, spacing))
 	}
 	return r, api.OK
 }
@@ -52,7 +55,7 @@ func (r *Room) Cut(c int, object api.Id, key string) api.Errno {
 	switch {
 	case e != api.OK:
 		return e
-	case len(w.document.Values(place)) == 0:
+	case len(w.document().Values(place)) == 0:
 		return api.ErrNone
 	}
 	return w.cut(place)
@@ -111,7 +114,7 @@ func (r *Room) Show(c int) (string, api.Errno) {
 	if e != api.OK {
 		return "", e
 	}
-	return w.document.Text(), api.OK
+	return w.document().Text(), api.OK
 }
 
 // Elements tells the elements of a list that can be seen (P6).
@@ -120,7 +123,7 @@ func (r *Room) Elements(c int, list api.Id) ([]api.Id, api.Errno) {
 	if e != api.OK {
 		return nil, e
 	}
-	return w.document.Elements(list), api.OK
+	return w.document().Elements(list), api.OK
 }
 
 // Values tells the values of a key (P6).
@@ -129,20 +132,53 @@ func (r *Room) Values(c int, object api.Id, key string) ([]api.Value, api.Errno)
 	if e != api.OK {
 		return nil, e
 	}
-	return w.document.Values(place), api.OK
+	return w.document().Values(place), api.OK
 }
 
 // Heard tells how many operations of each copy a copy has (P7).
-func (r *Room) Heard(c int) ([]int, api.Errno) { return nil, api.OK }
+func (r *Room) Heard(c int) ([]int, api.Errno) {
+	w, e := r.inCopy(c)
+	if e != api.OK {
+		return nil, e
+	}
+	return slices.Clone(w.heard), api.OK
+}
 
 // Ask sends a question (P8).
-func (r *Room) Ask(from int, to int) api.Errno { return api.OK }
+func (r *Room) Ask(from int, to int) api.Errno {
+	l, e := r.onLink(from, to)
+	if e == api.OK {
+		e = l.refusal()
+	}
+	if e != api.OK {
+		return e
+	}
+	l.send(r.copies[from].question())
+	return api.OK
+}
 
 // Deliver lets the first message of a link arrive (P9).
-func (r *Room) Deliver(from int, to int) api.Errno { return api.OK }
+func (r *Room) Deliver(from int, to int) api.Errno {
+	l, e := r.onLink(from, to)
+	switch {
+	case e != api.OK:
+		return e
+	case l.waiting() == 0:
+		return api.ErrEmpty
+	}
+	answer := l.receive().arrive(r.copies[to])
+	r.links[ends{to, from}].send(answer...)
+	return api.OK
+}
 
 // Waiting tells how many messages wait on a link (P8).
-func (r *Room) Waiting(from int, to int) (int, api.Errno) { return 0, api.OK }
+func (r *Room) Waiting(from int, to int) (int, api.Errno) {
+	l, e := r.onLink(from, to)
+	if e != api.OK {
+		return 0, e
+	}
+	return l.waiting(), api.OK
+}
 
 // Lose drops the first message of a link (P10).
 func (r *Room) Lose(from int, to int) api.Errno { return api.OK }
@@ -154,7 +190,17 @@ func (r *Room) Again(from int, to int) api.Errno { return api.OK }
 func (r *Room) Later(from int, to int) api.Errno { return api.OK }
 
 // Shut shuts a link (P11).
-func (r *Room) Shut(from int, to int) api.Errno { return api.OK }
+func (r *Room) Shut(from int, to int) api.Errno {
+	l, e := r.onLink(from, to)
+	switch {
+	case e != api.OK:
+		return e
+	case l.shut:
+		return api.ErrShut
+	}
+	l.close()
+	return api.OK
+}
 
 // Drain lets all messages of a link that is shut arrive (P11).
 func (r *Room) Drain(from int, to int) (int, api.Errno) { return 0, api.OK }

@@ -282,7 +282,7 @@ func laid(r *Room, list api.Id) []api.Id {
 	for counter := range w.greatest + 1 {
 		w.give(doc.ElementOf(list, id(counter, 0)), api.Value{})
 	}
-	return w.document.Elements(list)
+	return w.document().Elements(list)
 }
 
 // The same list, kept as plain slices, after a long row of steps.
