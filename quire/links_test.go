@@ -217,6 +217,11 @@ func TestShutLink(t *testing.T) {
 	deliver(t, r, 0, 1)
 	wantErrno(t, "Deliver of nothing", r.Deliver(0, 1), api.ErrEmpty)
 	wantErrno(t, "Ask on an empty link that is shut", r.Ask(0, 1), api.ErrShut)
+	select {
+	case <-r.links[ends{0, 1}].messages:
+	default:
+		t.Errorf("the channel of a link that is shut is not closed")
+	}
 	deliver(t, r, 1, 0)
 	wantHeard(t, r, 0, 0, 1)
 	put(t, r, 0, "a", 2)
@@ -382,8 +387,13 @@ func TestAheadOfEarlierOnes(t *testing.T) {
 	wantShow(t, r, 1, "{a:20,m:{}}")
 	made, e = r.Nest(1, root, "m", false)
 	wantId(t, "Nest behind those that came", made, e, id(21, 1), api.OK)
-	if n := len(r.copies[1].early); n != 0 {
-		t.Errorf("%d operations wait still", n)
+	wantNoneEarly(t, r, 1)
+}
+
+func wantNoneEarly(t *testing.T, r *Room, c int) {
+	t.Helper()
+	if n := len(r.copies[c].early); n != 0 {
+		t.Errorf("%d operations wait still with copy %d", n, c)
 	}
 }
 
@@ -426,6 +436,7 @@ func TestTwice(t *testing.T) {
 	deliver(t, r, 0, 1)
 	wantErrno(t, "Deliver of nothing", r.Deliver(0, 1), api.ErrEmpty)
 	wantHeard(t, r, 1, 12, 1)
+	wantNoneEarly(t, r, 1)
 	wantShow(t, r, 1, "{a:12,b:1}")
 	made, e := r.Nest(1, root, "m", false)
 	wantId(t, "Nest", made, e, id(14, 1), api.OK)
