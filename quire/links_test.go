@@ -427,12 +427,11 @@ func TestTwice(t *testing.T) {
 	later(r, 0, 1)
 	deliver(t, r, 0, 1) // once more
 	wantHeard(t, r, 1, 0, 0)
-	later(r, 0, 1)
-	deliver(t, r, 0, 1) // and once more
-	deliver(t, r, 0, 1)
+	deliver(t, r, 0, 1) // 1 to 8
 	wantHeard(t, r, 1, 12, 0)
 	put(t, r, 1, "b", 1)
-	deliver(t, r, 0, 1) // 1 to 8, which it has
+	deliver(t, r, 0, 1) // 9 to 12, which it has
+	deliver(t, r, 0, 1) // 1 to 8, which it has, too
 	deliver(t, r, 0, 1)
 	wantErrno(t, "Deliver of nothing", r.Deliver(0, 1), api.ErrEmpty)
 	wantHeard(t, r, 1, 12, 1)
