@@ -25,6 +25,18 @@ func (r *Room) onLink(from, to int) (*link, api.Errno) {
 	return l, api.OK
 }
 
+// onUsedLink finds a link on which something waits.
+func (r *Room) onUsedLink(from, to int) (*link, api.Errno) {
+	l, e := r.onLink(from, to)
+	switch {
+	case e != api.OK:
+		return nil, e
+	case l.waiting() == 0:
+		return nil, api.ErrEmpty
+	}
+	return l, api.OK
+}
+
 // inObject finds a copy that has such an object, a list or a map as is asked for.
 func (r *Room) inObject(c int, object api.Id, list bool) (*replica, api.Errno) {
 	w, e := r.inCopy(c)

@@ -58,6 +58,21 @@ func (l *link) receive() message {
 	return <-l.messages
 }
 
+// later lets the first message wait behind the others instead.
+func (l *link) later() {
+	l.send(l.receive())
+}
+
+// again lets the first message wait behind the others, too. A channel gives no message without losing it, so all of them go round once.
+func (l *link) again() {
+	first := l.receive()
+	l.send(first)
+	for range l.waiting() - 1 {
+		l.later()
+	}
+	l.send(first)
+}
+
 func (l *link) close() {
 	l.shut = true
 	close(l.messages)

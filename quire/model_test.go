@@ -314,28 +314,47 @@ func (m *model) ask(from, to int) api.Errno {
 	return api.OK
 }
 
-func (m *model) deliver(from, to int) api.Errno {
-	l, back := [2]int{from, to}, [2]int{to, from}
-	if m.noLink(from, to) {
+// used tells the first error of a call on a link that needs a message there.
+func (m *model) used(from, to int) api.Errno {
+	switch {
+	case m.noLink(from, to):
 		return api.ErrLink
-	}
-	if len(m.links[l]) == 0 {
+	case len(m.links[[2]int{from, to}]) == 0:
 		return api.ErrEmpty
 	}
+	return api.OK
+}
+
+// first takes the first message off a link.
+func (m *model) first(from, to int) modelMessage {
+	l := [2]int{from, to}
 	first := m.links[l][0]
 	m.links[l] = m.links[l][1:]
-	for _, o := range first.ops {
+	return first
+}
+
+func (m *model) deliver(from, to int) api.Errno {
+	e := m.used(from, to)
+	if e == api.OK {
+		m.arrive(m.first(from, to), from, to)
+	}
+	return e
+}
+
+func (m *model) arrive(message modelMessage, from, to int) {
+	for _, o := range message.ops {
 		m.came[to][[2]int{o.id.Copy, o.nth}] = o
 	}
-	if !first.asks {
-		return api.OK
+	if !message.asks {
+		return
 	}
 	var beyond []modelOp
 	for _, o := range m.has(to) {
-		if o.nth > first.known[o.id.Copy] {
+		if o.nth > message.known[o.id.Copy] {
 			beyond = append(beyond, o)
 		}
 	}
+	back := [2]int{to, from}
 	for parts := 0; len(beyond) > 0 && parts < api.MaxParts; parts++ {
 		part := beyond[:min(len(beyond), api.MaxBatch)]
 		beyond = beyond[len(part):]
@@ -343,7 +362,58 @@ func (m *model) deliver(from, to int) api.Errno {
 			m.links[back] = append(m.links[back], modelMessage{ops: part})
 		}
 	}
+}
+
+func (m *model) lose(from, to int) api.Errno {
+	e := m.used(from, to)
+	if e == api.OK {
+		m.first(from, to)
+	}
+	return e
+}
+
+func (m *model) again(from, to int) api.Errno {
+	l := [2]int{from, to}
+	e := m.used(from, to)
+	switch {
+	case e != api.OK:
+		return e
+	case m.shut[l]:
+		return api.ErrShut
+	case len(m.links[l]) == api.MaxWaiting:
+		return api.ErrFull
+	}
+	m.links[l] = append(m.links[l], m.links[l][0])
 	return api.OK
+}
+
+func (m *model) later(from, to int) api.Errno {
+	l := [2]int{from, to}
+	e := m.used(from, to)
+	switch {
+	case e != api.OK:
+		return e
+	case m.shut[l]:
+		return api.ErrShut
+	}
+	first := m.first(from, to)
+	m.links[l] = append(m.links[l], first)
+	return api.OK
+}
+
+func (m *model) drain(from, to int) (int, api.Errno) {
+	l := [2]int{from, to}
+	switch {
+	case m.noLink(from, to):
+		return 0, api.ErrLink
+	case !m.shut[l]:
+		return 0, api.ErrOpen
+	}
+	waited := len(m.links[l])
+	for range waited {
+		m.deliver(from, to)
+	}
+	return waited, api.OK
 }
 
 func (m *model) shutLink(from, to int) api.Errno {
@@ -376,7 +446,7 @@ func newPair(t *testing.T, seed int64, copies, spacing int) *pair {
 	rng := rand.New(rand.NewSource(seed))
 	return &pair{
 		t: t, rng: rng, room: r, model: newModel(copies), objects: []api.Id{root},
-		writes: 1 + rng.Intn(7), asks: 6 + rng.Intn(12), shuts: seed%5 == 0,
+		writes: 1 + rng.Intn(7), asks: 6 + rng.Intn(12), shuts: seed%3 == 0,
 	}
 }
 
@@ -476,12 +546,16 @@ func (p *pair) link(from, to int) {
 	switch n := p.rng.Intn(40); {
 	case n < p.asks:
 		p.same("Ask", fmt.Sprint(r.Ask(from, to)), fmt.Sprint(m.ask(from, to)))
-	case n < 33:
+	case n < 31:
 		p.same("Deliver", fmt.Sprint(r.Deliver(from, to)), fmt.Sprint(m.deliver(from, to)))
-	case n < 36:
-		p.lose(from, to)
+	case n < 33:
+		p.same("Lose", fmt.Sprint(r.Lose(from, to)), fmt.Sprint(m.lose(from, to)))
+	case n < 35:
+		p.same("Again", fmt.Sprint(r.Again(from, to)), fmt.Sprint(m.again(from, to)))
+	case n < 37:
+		p.same("Later", fmt.Sprint(r.Later(from, to)), fmt.Sprint(m.later(from, to)))
 	case n < 39:
-		p.later(from, to)
+		p.same("Drain", fmt.Sprint(r.Drain(from, to)), fmt.Sprint(m.drain(from, to)))
 	case p.shuts:
 		p.same("Shut", fmt.Sprint(r.Shut(from, to)), fmt.Sprint(m.shutLink(from, to)))
 	}
@@ -492,20 +566,6 @@ func (p *pair) link(from, to int) {
 	p.same("Waiting", fmt.Sprint(r.Waiting(from, to)), fmt.Sprint(len(m.links[[2]int{from, to}]), api.OK))
 	p.same("Waiting back", fmt.Sprint(r.Waiting(to, from)), fmt.Sprint(len(m.links[[2]int{to, from}]), api.OK))
 	p.sameCopy(to)
-}
-
-func (p *pair) lose(from, to int) {
-	if l := [2]int{from, to}; len(p.model.links[l]) > 0 {
-		p.model.links[l] = p.model.links[l][1:]
-		lose(p.room, from, to)
-	}
-}
-
-func (p *pair) later(from, to int) {
-	if l := [2]int{from, to}; len(p.model.links[l]) > 0 && !p.model.shut[l] {
-		p.model.links[l] = append(p.model.links[l][1:], p.model.links[l][0])
-		later(p.room, from, to)
-	}
 }
 
 func (p *pair) sameCopy(c int) {
@@ -530,7 +590,7 @@ func (p *pair) sameAll() {
 	}
 }
 
-// P1 to P9 and P13, against the model, in long rows of calls.
+// P1 to P11 and P13, against the model, in long rows of calls.
 func TestAgainstModel(t *testing.T) {
 	for seed := range int64(100) {
 		copies := 1 + int(seed)%api.MaxCopies
@@ -540,13 +600,4 @@ func TestAgainstModel(t *testing.T) {
 		}
 		p.sameAll()
 	}
-}
-
-// lose takes the first message off a link.
-func lose(r *Room, from, to int) { r.links[ends{from, to}].receive() }
-
-// later puts the first message of a link behind the others.
-func later(r *Room, from, to int) {
-	l := r.links[ends{from, to}]
-	l.send(l.receive())
 }

@@ -159,16 +159,18 @@ func (r *Room) Ask(from int, to int) api.Errno {
 
 // Deliver lets the first message of a link arrive (P9).
 func (r *Room) Deliver(from int, to int) api.Errno {
-	l, e := r.onLink(from, to)
-	switch {
-	case e != api.OK:
+	l, e := r.onUsedLink(from, to)
+	if e != api.OK {
 		return e
-	case l.waiting() == 0:
-		return api.ErrEmpty
 	}
-	answer := l.receive().arrive(r.copies[to])
-	r.links[ends{to, from}].send(answer...)
+	r.arrive(l.receive(), from, to)
 	return api.OK
+}
+
+// arrive lets a message that came over a link in; the answer goes over the link back.
+func (r *Room) arrive(m message, from, to int) {
+	answer := m.arrive(r.copies[to])
+	r.links[ends{to, from}].send(answer...)
 }
 
 // Waiting tells how many messages wait on a link (P8).
@@ -181,13 +183,40 @@ func (r *Room) Waiting(from int, to int) (int, api.Errno) {
 }
 
 // Lose drops the first message of a link (P10).
-func (r *Room) Lose(from int, to int) api.Errno { return api.OK }
+func (r *Room) Lose(from int, to int) api.Errno {
+	l, e := r.onUsedLink(from, to)
+	if e != api.OK {
+		return e
+	}
+	l.receive()
+	return api.OK
+}
 
 // Again puts the first message of a link behind the others once more (P10).
-func (r *Room) Again(from int, to int) api.Errno { return api.OK }
+func (r *Room) Again(from int, to int) api.Errno {
+	l, e := r.onUsedLink(from, to)
+	if e == api.OK {
+		e = l.refusal()
+	}
+	if e != api.OK {
+		return e
+	}
+	l.again()
+	return api.OK
+}
 
 // Later puts the first message of a link behind the others (P10).
-func (r *Room) Later(from int, to int) api.Errno { return api.OK }
+func (r *Room) Later(from int, to int) api.Errno {
+	l, e := r.onUsedLink(from, to)
+	switch {
+	case e != api.OK:
+		return e
+	case l.shut:
+		return api.ErrShut
+	}
+	l.later()
+	return api.OK
+}
 
 // Shut shuts a link (P11).
 func (r *Room) Shut(from int, to int) api.Errno {
@@ -203,7 +232,21 @@ func (r *Room) Shut(from int, to int) api.Errno {
 }
 
 // Drain lets all messages of a link that is shut arrive (P11).
-func (r *Room) Drain(from int, to int) (int, api.Errno) { return 0, api.OK }
+func (r *Room) Drain(from int, to int) (int, api.Errno) {
+	l, e := r.onLink(from, to)
+	switch {
+	case e != api.OK:
+		return 0, e
+	case !l.shut:
+		return 0, api.ErrOpen
+	}
+	arrived := 0
+	for m := range l.messages {
+		r.arrive(m, from, to)
+		arrived++
+	}
+	return arrived, api.OK
+}
 
 // Trim lets a copy forget operations that all have (P12).
 func (r *Room) Trim(c int) (int, api.Errno) { return 0, api.OK }
