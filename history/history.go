@@ -8,12 +8,13 @@ import (
 	"quire/doc"
 )
 
-// History is operations and the document that they make.
+// History is operations and the document that they make. The first ones may be forgotten: what they make is remembered still.
 type History struct {
 	spacing    int
-	operations []doc.Operation // in the order of their Ids
-	remembered []*doc.Document // the i-th is what the first i*spacing operations make
-	document   *doc.Document   // what all of them make
+	surplus    int             // how many are forgotten beyond a multiple of the spacing; states that are behind those stay where they are
+	operations []doc.Operation // in the order of their Ids, without the forgotten ones, which are ahead of them
+	remembered []*doc.Document // the first is what the forgotten operations make; how many more are done in each, doneIn tells
+	document   *doc.Document   // what all operations make, be they forgotten or not
 }
 
 // New gives a history without operations; it will remember a state every spacing operations.
@@ -46,28 +47,66 @@ func (h *History) insert(o doc.Operation) int {
 	return ahead
 }
 
-// goBack goes to the last remembered state in which none is done but the first so many operations, forgets the later ones, and tells how many are done in it.
+// lastWithin tells which remembered state is the last in which none is done but the first so many operations.
+func (h *History) lastWithin(ahead int) int {
+	return (h.surplus + ahead) / h.spacing
+}
+
+// doneIn tells how many operations are done in a remembered state, beside the forgotten ones.
+func (h *History) doneIn(state int) int {
+	return max(0, state*h.spacing-h.surplus)
+}
+
+// goBack goes to the last remembered state in which none is done but the first so many operations, drops the later ones, and tells how many are done in it.
 func (h *History) goBack(ahead int) int {
-	last := ahead / h.spacing
+	last := h.lastWithin(ahead)
 	clear(h.remembered[last+1:])
 	h.remembered = h.remembered[:last+1]
 	h.document = h.remembered[last].Clone()
-	return last * h.spacing
+	return h.doneIn(last)
 }
 
 // do does what comes behind the operations that are done, and remembers the states on the way.
 func (h *History) do(done int) {
 	for done < len(h.operations) {
-		stop := min(done-done%h.spacing+h.spacing, len(h.operations))
+		next := h.doneIn(len(h.remembered))
+		stop := min(next, len(h.operations))
 		h.document.Do(h.operations[done:stop]...)
 		done = stop
-		if done%h.spacing == 0 {
+		if done == next {
 			h.remembered = append(h.remembered, h.document.Clone())
 		}
 	}
 }
 
-// Beyond tells the operations beyond those that are known, so many of each copy, by their copies, then by their places among those.
+// Forget drops operations, in the order of their Ids, as long as they are among the first so many of their copy, and tells how many it dropped. None may come any more that is ahead of these: no state from ahead of them is left to go back to.
+func (h *History) Forget(settled []int) int {
+	gone := h.leading(settled)
+	base := h.lastWithin(gone)
+	done := h.doneIn(base)
+	h.remembered = slices.Delete(h.remembered, 0, base)
+	h.remembered[0].Do(h.operations[done:gone]...)
+	h.operations = slices.Delete(h.operations, 0, gone)
+	h.surplus = (h.surplus + gone) % h.spacing
+	return gone
+}
+
+// leading tells how many operations are ahead of the first that is not among the first so many of its copy.
+func (h *History) leading(settled []int) int {
+	for i, o := range h.operations {
+		if o.Nth > settled[o.Id.Copy] {
+			return i
+		}
+	}
+	return len(h.operations)
+}
+
+// Kept tells how many operations are not forgotten.
+func (h *History) Kept() int {
+	return len(h.operations)
+}
+
+// Beyond tells the operations, without the forgotten ones, beyond those that are known, so many of each copy, by their copies, then by their places among those.
 func (h *History) Beyond(known []int) []doc.Operation {
 	var beyond []doc.Operation
 	for _, o := range h.operations {

@@ -1,35 +1,24 @@
 package quire
 
-import (
-	"slices"
-
-	"quire/api"
-	"quire/doc"
-)
+import "quire/doc"
 
 // message is what waits on a link: a question or operations.
 type message interface {
-	// arrive lets the copy take the message in, and gives what is to wait on the link back.
-	arrive(w *replica) []message
+	// arrive lets the copy take the message of another one in, and gives what is to wait on the link back.
+	arrive(w *replica, from int) []message
 }
 
 // question is how many operations of each copy the one that asks has.
 type question []int
 
-func (q question) arrive(w *replica) []message {
-	var answer []message
-	for part := range slices.Chunk(w.history.Beyond(q), api.MaxBatch) {
-		if len(answer) == api.MaxParts {
-			break
-		}
-		answer = append(answer, batch(part))
-	}
-	return answer
+func (q question) arrive(w *replica, from int) []message {
+	w.keepInMind(from, q)
+	return w.answer(q)
 }
 
 type batch []doc.Operation
 
-func (b batch) arrive(w *replica) []message {
+func (b batch) arrive(w *replica, from int) []message {
 	w.hear(b...)
 	return nil
 }

@@ -13,9 +13,11 @@ import (
 
 // The model is the document's words, taken one by one: it begins anew for each answer, and keeps plain lists.
 type model struct {
-	came  []map[[2]int]modelOp // of each copy, by copy and place
-	links map[[2]int][]modelMessage
-	shut  map[[2]int]bool
+	came   []map[[2]int]modelOp // of each copy, by copy and place
+	forgot []map[api.Id]bool    // of each copy
+	links  map[[2]int][]modelMessage
+	shut   map[[2]int]bool
+	asked  map[[2]int][][]int // all questions of one copy that have arrived at another
 }
 
 type modelOp struct {
@@ -42,9 +44,10 @@ type modelDoc struct {
 }
 
 func newModel(copies int) *model {
-	m := &model{links: map[[2]int][]modelMessage{}, shut: map[[2]int]bool{}}
+	m := &model{links: map[[2]int][]modelMessage{}, shut: map[[2]int]bool{}, asked: map[[2]int][][]int{}}
 	for range copies {
 		m.came = append(m.came, map[[2]int]modelOp{})
+		m.forgot = append(m.forgot, map[api.Id]bool{})
 	}
 	return m
 }
@@ -71,13 +74,18 @@ func (m *model) heard(c int) []int {
 	return heard
 }
 
-func (m *model) document(c int) *modelDoc {
-	d := &modelDoc{maps: map[api.Id]bool{root: true}, lists: map[api.Id][]api.Id{}}
+// byIds tells what a copy has in the order of the Ids.
+func (m *model) byIds(c int) []modelOp {
 	ops := m.has(c)
 	slices.SortFunc(ops, func(a, b modelOp) int {
 		return cmp.Or(cmp.Compare(a.id.Counter, b.id.Counter), cmp.Compare(a.id.Copy, b.id.Copy))
 	})
-	for _, o := range ops {
+	return ops
+}
+
+func (m *model) document(c int) *modelDoc {
+	d := &modelDoc{maps: map[api.Id]bool{root: true}, lists: map[api.Id][]api.Id{}}
+	for _, o := range m.byIds(c) {
 		d.do(o)
 	}
 	return d
@@ -348,6 +356,7 @@ func (m *model) arrive(message modelMessage, from, to int) {
 	if !message.asks {
 		return
 	}
+	m.asked[[2]int{from, to}] = append(m.asked[[2]int{from, to}], message.known)
 	var beyond []modelOp
 	for _, o := range m.has(to) {
 		if o.nth > message.known[o.id.Copy] {
@@ -356,8 +365,9 @@ func (m *model) arrive(message modelMessage, from, to int) {
 	}
 	back := [2]int{to, from}
 	for parts := 0; len(beyond) > 0 && parts < api.MaxParts; parts++ {
-		part := beyond[:min(len(beyond), api.MaxBatch)]
+		part := slices.Clone(beyond[:min(len(beyond), api.MaxBatch)])
 		beyond = beyond[len(part):]
+		part = slices.DeleteFunc(part, func(o modelOp) bool { return m.forgot[to][o.id] })
 		if !m.shut[back] && len(m.links[back]) < api.MaxWaiting {
 			m.links[back] = append(m.links[back], modelMessage{ops: part})
 		}
@@ -428,6 +438,49 @@ func (m *model) shutLink(from, to int) api.Errno {
 	}
 }
 
+// newest is what a copy knows of another one: how many operations of a third one, or of one of them, that one had.
+func (m *model) newest(c, other, third int) int {
+	newest := 0
+	for _, known := range m.asked[[2]int{other, c}] {
+		newest = max(newest, known[third])
+	}
+	return newest
+}
+
+func (m *model) settled(c int, o modelOp) bool {
+	for d := range m.came {
+		if d != c && (m.newest(c, d, o.id.Copy) < o.nth || m.heard(c)[d] < m.newest(c, d, d)) {
+			return false
+		}
+	}
+	return true
+}
+
+func (m *model) trim(c int) (int, api.Errno) {
+	if c < 0 || c >= len(m.came) {
+		return 0, api.ErrCopy
+	}
+	remembered := m.remembers(c)
+	for _, o := range m.byIds(c) {
+		if !m.settled(c, o) {
+			break
+		}
+		m.forgot[c][o.id] = true
+	}
+	return remembered - m.remembers(c), api.OK
+}
+
+func (m *model) remembers(c int) int {
+	return len(m.has(c)) - len(m.forgot[c])
+}
+
+func (m *model) kept(c int) (int, api.Errno) {
+	if c < 0 || c >= len(m.came) {
+		return 0, api.ErrCopy
+	}
+	return m.remembers(c), api.OK
+}
+
 // pair is a room and the model of it, which are led through the same calls.
 type pair struct {
 	t       *testing.T
@@ -437,7 +490,9 @@ type pair struct {
 	objects []api.Id
 	writes  int // how many of ten calls write
 	asks    int // how many of forty calls on links ask
+	trims   int // ahead of one of how many calls a copy forgets
 	shuts   bool
+	forgot  int // operations that were forgotten, in all copies
 }
 
 func newPair(t *testing.T, seed int64, copies, spacing int) *pair {
@@ -446,7 +501,7 @@ func newPair(t *testing.T, seed int64, copies, spacing int) *pair {
 	rng := rand.New(rand.NewSource(seed))
 	return &pair{
 		t: t, rng: rng, room: r, model: newModel(copies), objects: []api.Id{root},
-		writes: 1 + rng.Intn(7), asks: 6 + rng.Intn(12), shuts: seed%3 == 0,
+		writes: 1 + rng.Intn(7), asks: 6 + rng.Intn(12), trims: 1 + rng.Intn(20), shuts: seed%3 == 0,
 	}
 }
 
@@ -491,6 +546,9 @@ func (p *pair) same(what string, got, want string) {
 
 func (p *pair) step() {
 	c := p.copy()
+	if p.rng.Intn(p.trims) == 0 {
+		p.trim(p.copy())
+	}
 	if p.rng.Intn(10) < p.writes {
 		if p.rng.Intn(2) == 0 {
 			p.writeKey(c)
@@ -501,6 +559,13 @@ func (p *pair) step() {
 		return
 	}
 	p.link(c, p.other(c))
+}
+
+func (p *pair) trim(c int) {
+	n, e := p.room.Trim(c)
+	p.forgot += n
+	p.same("Trim", fmt.Sprint(n, e), fmt.Sprint(p.model.trim(c)))
+	p.sameCopy(c)
 }
 
 func (p *pair) made(made api.Id) {
@@ -570,6 +635,7 @@ func (p *pair) link(from, to int) {
 
 func (p *pair) sameCopy(c int) {
 	p.t.Helper()
+	p.same("Kept", fmt.Sprint(p.room.Kept(c)), fmt.Sprint(p.model.kept(c)))
 	if c < 0 || c >= p.copies() {
 		p.same("Show", fmt.Sprint(p.room.Show(c)), fmt.Sprint("", api.ErrCopy))
 		p.same("Heard", fmt.Sprint(p.room.Heard(c)), fmt.Sprint([]int{}, api.ErrCopy))
@@ -577,6 +643,39 @@ func (p *pair) sameCopy(c int) {
 	}
 	p.same("Show", fmt.Sprint(p.room.Show(c)), fmt.Sprint(p.model.document(c).text(root, 1), api.OK))
 	p.same("Heard", fmt.Sprint(p.room.Heard(c)), fmt.Sprint(p.model.heard(c), api.OK))
+}
+
+// sameMessages compares what waits on all links, message by message, and takes it off there.
+func (p *pair) sameMessages() {
+	p.t.Helper()
+	for e, l := range p.room.links {
+		for l.waiting() > 0 {
+			p.same("message", toldMessage(l.receive()), p.model.first(e.from, e.to).told())
+		}
+	}
+}
+
+func toldMessage(m message) string {
+	b, operations := m.(batch)
+	if !operations {
+		return fmt.Sprint("question ", m)
+	}
+	var ids []api.Id
+	for _, o := range b {
+		ids = append(ids, o.Id)
+	}
+	return fmt.Sprint("operations ", ids)
+}
+
+func (m modelMessage) told() string {
+	if m.asks {
+		return fmt.Sprint("question ", m.known)
+	}
+	var ids []api.Id
+	for _, o := range m.ops {
+		ids = append(ids, o.id)
+	}
+	return fmt.Sprint("operations ", ids)
 }
 
 func (p *pair) sameAll() {
@@ -590,8 +689,9 @@ func (p *pair) sameAll() {
 	}
 }
 
-// P1 to P11 and P13, against the model, in long rows of calls.
+// P1 to P13, against the model, in long rows of calls.
 func TestAgainstModel(t *testing.T) {
+	forgot := make([]int, api.MaxCopies)
 	for seed := range int64(100) {
 		copies := 1 + int(seed)%api.MaxCopies
 		p := newPair(t, seed, copies, 1+int(seed*7)%api.MaxSpacing)
@@ -599,5 +699,12 @@ func TestAgainstModel(t *testing.T) {
 			p.step()
 		}
 		p.sameAll()
+		p.sameMessages()
+		forgot[copies-1] += p.forgot
+	}
+	for n, operations := range forgot {
+		if operations < 100 {
+			t.Errorf("in all rooms of %d copies only %d operations were forgotten", n+1, operations)
+		}
 	}
 }

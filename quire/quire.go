@@ -169,7 +169,7 @@ func (r *Room) Deliver(from int, to int) api.Errno {
 
 // arrive lets a message that came over a link in; the answer goes over the link back.
 func (r *Room) arrive(m message, from, to int) {
-	answer := m.arrive(r.copies[to])
+	answer := m.arrive(r.copies[to], from)
 	r.links[ends{to, from}].send(answer...)
 }
 
@@ -249,7 +249,19 @@ func (r *Room) Drain(from int, to int) (int, api.Errno) {
 }
 
 // Trim lets a copy forget operations that all have (P12).
-func (r *Room) Trim(c int) (int, api.Errno) { return 0, api.OK }
+func (r *Room) Trim(c int) (int, api.Errno) {
+	w, e := r.inCopy(c)
+	if e != api.OK {
+		return 0, e
+	}
+	return w.trim(), api.OK
+}
 
 // Kept tells how many operations a copy remembers (P12).
-func (r *Room) Kept(c int) (int, api.Errno) { return 0, api.OK }
+func (r *Room) Kept(c int) (int, api.Errno) {
+	w, e := r.inCopy(c)
+	if e != api.OK {
+		return 0, e
+	}
+	return w.history.Kept(), api.OK
+}

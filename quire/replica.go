@@ -15,6 +15,7 @@ type replica struct {
 	heard    []int // how many operations of each copy it has
 	history  *history.History
 	early    map[place]doc.Operation // those that came ahead of earlier ones of their copy
+	newest   map[int][]int           // of each other copy: how many operations of each it had, by its questions that have arrived
 }
 
 // place is the one of an operation among those of its copy.
@@ -22,13 +23,24 @@ type place struct {
 	copy, nth int
 }
 
+func placeOf(o doc.Operation) place {
+	return place{o.Id.Copy, o.Nth}
+}
+
 func newReplica(number, copies, spacing int) *replica {
-	return &replica{
+	w := &replica{
 		number:  number,
 		heard:   make([]int, copies),
 		history: history.New(spacing),
 		early:   map[place]doc.Operation{},
+		newest:  map[int][]int{},
 	}
+	for other := range copies {
+		if other != number {
+			w.newest[other] = make([]int, copies)
+		}
+	}
+	return w
 }
 
 // document is to be asked for anew whenever operations have come.
@@ -65,7 +77,7 @@ func (w *replica) have(operations ...doc.Operation) {
 func (w *replica) hear(operations ...doc.Operation) {
 	for _, o := range operations {
 		if o.Nth > w.heard[o.Id.Copy] {
-			w.early[place{o.Id.Copy, o.Nth}] = o
+			w.early[placeOf(o)] = o
 		}
 	}
 	w.have(w.ready()...)
@@ -85,6 +97,62 @@ func (w *replica) ready() []doc.Operation {
 		}
 	}
 	return ready
+}
+
+// answer makes messages of the operations that the copy has beyond those that are known. A forgotten one is missing in its message, but takes its room there: the others come in the same messages as if it were there.
+func (w *replica) answer(known []int) []message {
+	var answer []message
+	left := w.history.Beyond(known)
+	for part := range slices.Chunk(w.beyond(known), api.MaxBatch) {
+		if len(answer) == api.MaxParts {
+			break
+		}
+		n := 0
+		for n < len(left) && slices.Contains(part, placeOf(left[n])) {
+			n++
+		}
+		answer = append(answer, batch(left[:n]))
+		left = left[n:]
+	}
+	return answer
+}
+
+// beyond tells the places of all operations that the copy has beyond those that are known, be they forgotten or not.
+func (w *replica) beyond(known []int) []place {
+	var beyond []place
+	for c, n := range w.heard {
+		for nth := known[c] + 1; nth <= n; nth++ {
+			beyond = append(beyond, place{c, nth})
+		}
+	}
+	return beyond
+}
+
+// keepInMind notes what another copy had when it asked. A question may come behind later ones, which tell more.
+func (w *replica) keepInMind(other int, had []int) {
+	newest := w.newest[other]
+	for c, n := range had {
+		newest[c] = max(newest[c], n)
+	}
+}
+
+// trim forgets what no copy can lack and nothing can come ahead of, and tells how many operations that were.
+func (w *replica) trim() int {
+	return w.history.Forget(w.settled())
+}
+
+// settled tells how many operations of each copy are settled: all others had them when they asked. None is, while one that another copy had made by then is missing here: that copy may have made it ahead of having them.
+func (w *replica) settled() []int {
+	settled := slices.Clone(w.heard)
+	for other, had := range w.newest {
+		if had[other] > w.heard[other] {
+			return make([]int, len(w.heard))
+		}
+		for c, n := range had {
+			settled[c] = min(settled[c], n)
+		}
+	}
+	return settled
 }
 
 func (w *replica) makeObject(list bool) api.Id {
